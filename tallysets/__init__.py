@@ -1,0 +1,1 @@
+"""Tallysets: how often each letter."""

@@ -1,0 +1,87 @@
+"""Point 2: what a call tells depends on what it is handed and on nothing else."""
+
+import unittest
+
+from helper import GREAT, NO_PARTS
+from tallysets.errors import TallyError
+from tallysets.fans import fan_of, is_set
+from tallysets.tallies import added, at_most, is_tally, less, times, weight
+
+STEPS = [(1, 1), (0, 0), (0, 3), (1, 1)]
+
+CALLS = (
+    (is_tally, (1, 2)),
+    (is_tally, (1, True)),
+    (is_tally, [1, 2]),
+    (is_tally, ()),
+    (added, (1, 2), (3, GREAT)),
+    (added, (1,), (3,)),
+    (times, 0, (1, 2, 3)),
+    (times, 5, (1, 2, 3)),
+    (at_most, (1, 2), (1, 3)),
+    (at_most, (1, 3), (1, 2)),
+    (less, (1, 3), (1, 2)),
+    (less, (1, 2), (1, 3)),
+    (less, (4, 4, 4, 4), (4, 4, 4, 4)),
+    (weight, (1, -2), (3, 4)),
+    (weight, (0, 0, 0, -1), (3, 4, 5, 6)),
+    (fan_of, (2, 0), STEPS),
+    (fan_of, (2, 0), tuple(STEPS)),
+    (fan_of, (2, 0), []),
+    (fan_of, (2, 0, 0), STEPS),
+    (fan_of, None, ()),
+    (is_set, ()),
+    (is_set, (((2, 0), ((0, 3), (1, 1))),)),
+    (is_set, (((2, 0), ((1, 1), (0, 3))),)),
+    (is_set, ((2, 0), ((0, 3), (1, 1)))),
+    (is_set, None),
+)
+
+
+def answer(call):
+    """What the call tells, or the kind of its refusal, as a text that tells kinds apart."""
+    try:
+        return repr(call[0](*call[1:]))
+    except TallyError as refusal:
+        return type(refusal).__name__
+
+
+class Again(unittest.TestCase):
+    def setUp(self):
+        self.first = [answer(call) for call in CALLS]
+
+    def test_twice_at_once(self):
+        for call, told in zip(CALLS, self.first):
+            self.assertEqual([answer(call), answer(call)], [told, told])
+
+    def test_behind_each_other_call(self):
+        for other in CALLS:
+            for call, told in zip(CALLS, self.first):
+                answer(other)
+                self.assertEqual(answer(call), told)
+
+    def test_behind_all_calls_backwards(self):
+        told = [answer(call) for call in reversed(CALLS)]
+        self.assertEqual(told[::-1], self.first)
+
+    def test_behind_many_refusals(self):
+        for part in NO_PARTS:
+            answer((fan_of, (1, part), ()))
+            answer((fan_of, (1, 1), [(1, part)]))
+            answer((less, (1, 1), (1, 2)))
+        self.assertEqual([answer(call) for call in CALLS], self.first)
+
+    def test_what_is_handed_in_stays(self):
+        self.assertEqual(STEPS, [(1, 1), (0, 0), (0, 3), (1, 1)])
+
+    def test_a_list_handed_in_anew_is_read_anew(self):
+        steps = [(1, 1)]
+        self.assertEqual(fan_of((0, 0), steps), ((0, 0), ((1, 1),)))
+        steps.append((0, 2))
+        self.assertEqual(fan_of((0, 0), steps), ((0, 0), ((0, 2), (1, 1))))
+        steps.clear()
+        self.assertEqual(fan_of((0, 0), steps), ((0, 0), ()))
+
+
+if __name__ == "__main__":
+    unittest.main()
