@@ -2,6 +2,7 @@
 
 import inspect
 import itertools
+import random
 
 from tallysets.errors import NoFan, NoTally, NoText, NoTree, TallyError, TooGreat
 
@@ -36,6 +37,75 @@ def replaced(row, place, thing):
 def inserted(row, place, thing):
     """The tuple row with the thing put in ahead of the place."""
     return row[:place] + (thing,) + row[place:]
+
+
+def box(most):
+    """All tallies at most this one, in order."""
+    return list(itertools.product(*[range(part + 1) for part in most]))
+
+
+def plus(one, other):
+    return tuple(left + right for left, right in zip(one, other))
+
+
+def fits(one, most):
+    return all(left <= right for left, right in zip(one, most))
+
+
+def come_to(begin, counts, steps):
+    """The begin and the steps, each taken so often."""
+    for count, step in zip(counts, steps, strict=True):
+        for _ in range(count):
+            begin = plus(begin, step)
+    return begin
+
+
+def sums_up_to(steps, most, begin=None):
+    """What comes of the begin (else of noughts) and the steps, as a Python set, up to most."""
+    begin = (0,) * len(most) if begin is None else begin
+    reached = {begin} if fits(begin, most) else set()
+    waiting = list(reached)
+    while waiting:
+        one = waiting.pop()
+        for step in steps:
+            further = plus(one, step)
+            if fits(further, most) and further not in reached:
+                reached.add(further)
+                waiting.append(further)
+    return reached
+
+
+def tallies_up_to(some, most):
+    """All that the set has up to most, as a Python set."""
+    found = set()
+    for begin, steps in some:
+        found |= sums_up_to(steps, most, begin)
+    return found
+
+
+def some_tally(chance, long, top):
+    return tuple(chance.randint(0, top) for _ in range(long))
+
+
+def some_fan(chance, long, many_steps, top):
+    steps = {some_tally(chance, long, top) for _ in range(chance.randint(0, many_steps))}
+    return (some_tally(chance, long, top), tuple(sorted(step for step in steps if any(step))))
+
+
+def some_sets(seed, count, most_fans=4, most_steps=4, top=3, longs=(1, 2, 3, 4)):
+    """So many sets of small numbers, always the same ones for a seed."""
+    chance = random.Random(seed)
+    made = []
+    for number in range(count):
+        long = longs[number % len(longs)]
+        fans = [some_fan(chance, long, most_steps, top) for _ in range(chance.randint(0, most_fans))]
+        made.append(tuple(fans))
+    return made
+
+
+def long_of(some, other=2):
+    """How many numbers the set's tallies have; for the set of no fans, which tells none, other."""
+    return len(some[0][0]) if some else other
 
 
 def check_refused(test, refusal, call, *things):

@@ -5,9 +5,14 @@ import unittest
 from helper import GREAT, NO_PARTS
 from tallysets.errors import TallyError
 from tallysets.fans import fan_of, is_set
+from tallysets.marks import is_small, marks_of
+from tallysets.settexts import read_set, show_set
 from tallysets.tallies import added, at_most, is_tally, less, times, weight
+from tallysets.withins import counts_of, table_of, within
 
 STEPS = [(1, 1), (0, 0), (0, 3), (1, 1)]
+FAN = ((2, 0), ((0, 3), (1, 1)))
+SOME = (FAN, ((0, 4), ()), ((0, 1), ((1, 0),)))
 
 CALLS = (
     (is_tally, (1, 2)),
@@ -35,6 +40,25 @@ CALLS = (
     (is_set, (((2, 0), ((1, 1), (0, 3))),)),
     (is_set, ((2, 0), ((0, 3), (1, 1)))),
     (is_set, None),
+    (show_set, SOME),
+    (show_set, ()),
+    (read_set, "2,0+0,3+1,1 | 0,4"),
+    (read_set, "2,0+1,1+0,3 | 0,4"),
+    (read_set, "-"),
+    (is_small, (59, 49)),
+    (is_small, (59, 50)),
+    (marks_of, tuple(STEPS), (3, 4)),
+    (marks_of, (), (3, 4)),
+    (marks_of, tuple(STEPS), (59, 50)),
+    (counts_of, FAN, (3, 4)),
+    (counts_of, FAN, (1, 4)),
+    (counts_of, FAN, (GREAT, 4)),
+    (within, SOME, (3, 1)),
+    (within, SOME, (1, 0)),
+    (within, SOME, (GREAT, 1)),
+    (table_of, SOME, (3, 5)),
+    (table_of, (), (3, 5)),
+    (table_of, SOME, (GREAT, 5)),
 )
 
 
