@@ -8,13 +8,18 @@ def is_tally_as_long(thing, long):
     return is_tally(thing) and len(thing) == long
 
 
+def plain_fan(begin, steps):
+    """The fan of tallies that need not be looked at: noughts left out, each once, rising."""
+    moving = [step for step in steps if any(step)]
+    return (begin, tuple(sorted(set(moving))))
+
+
 def fan_of(begin, steps):
     if not is_tally(begin):
         raise NoFan("the begin is no tally")
     if not all([is_tally_as_long(step, len(begin)) for step in steps]):
         raise NoFan("a step is no tally with as many numbers as the begin")
-    moving = [step for step in steps if any(step)]
-    return (begin, tuple(sorted(set(moving))))
+    return plain_fan(begin, steps)
 
 
 def are_steps(thing, long):

@@ -36,5 +36,13 @@ def less(one, other):
     return tuple([left - right for left, right in zip(one, other)])
 
 
+def taken(begin, counts, steps):
+    """The tally to which the begin and the steps, each taken as often as its count tells, come."""
+    reached = begin
+    for count, step in zip(counts, steps):
+        reached = added(reached, times(count, step))
+    return reached
+
+
 def weight(weights, one):
     return sum([factor * part for factor, part in zip(weights, one)])

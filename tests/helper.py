@@ -83,6 +83,59 @@ def tallies_up_to(some, most):
     return found
 
 
+def rows_below(long, most):
+    """All rows of so many numbers from 0 on that come to at most this."""
+    if long == 0:
+        return [()]
+    return [(first,) + row for first in range(most + 1) for row in rows_below(long - 1, most - first)]
+
+
+def least_of(rows):
+    """Those of the rows that no other one of them is at most, in order."""
+    leasts = []
+    for row in sorted(rows, key=sum):
+        if not any(fits(least, row) for least in leasts):
+            leasts.append(row)
+    return tuple(sorted(leasts))
+
+
+def rows_to(values, total, most_rising, most_falling):
+    """The rows that come to the total, with at most so many values above and below 0 taken."""
+    rising = [place for place, value in enumerate(values) if value > 0]
+    falling = [place for place, value in enumerate(values) if value < 0]
+    lower = {}
+    for down in rows_below(len(falling), most_falling):
+        lower.setdefault(sum(values[place] * count for place, count in zip(falling, down)), []).append(down)
+    rows = []
+    for up in rows_below(len(rising), most_rising):
+        high = sum(values[place] * count for place, count in zip(rising, up))
+        for down in lower.get(total - high, ()):
+            row = [0] * len(values)
+            for place, count in zip(rising + falling, up + down):
+                row[place] = count
+            rows.append(tuple(row))
+    return rows
+
+
+def loops_gone_through(values):
+    """The loops of values: in none more rising ones are taken than the steepest falls, nor the other way."""
+    steepest = max([abs(value) for value in values] + [1])
+    rows = [row for row in rows_to(values, 0, steepest, steepest) if any(row)]
+    for place, value in enumerate(values):
+        if value == 0:
+            rows.append(tuple(int(other == place) for other in range(len(values))))
+    return least_of(rows)
+
+
+def leasts_gone_through(values, total):
+    """The leasts for a total, which are loops in which minus the total is taken once besides."""
+    steepest = max([abs(value) for value in values] + [1])
+    further = max(steepest, abs(total))
+    if total > 0:
+        return least_of(rows_to(values, total, further, steepest))
+    return least_of(rows_to(values, total, steepest, further))
+
+
 def some_tally(chance, long, top):
     return tuple(chance.randint(0, top) for _ in range(long))
 

@@ -3,10 +3,14 @@
 import unittest
 
 from helper import GREAT, NO_PARTS
+from tallysets.balances import leasts_of, loops_of
+from tallysets.cuts import cut_by_rest, cut_by_sum
 from tallysets.errors import TallyError
 from tallysets.fans import fan_of, is_set
+from tallysets.images import left_out, mapped
 from tallysets.marks import is_small, marks_of
 from tallysets.settexts import read_set, show_set
+from tallysets.sums import joined, repeated, summed
 from tallysets.tallies import added, at_most, is_tally, less, times, weight
 from tallysets.withins import counts_of, table_of, within
 
@@ -59,6 +63,25 @@ CALLS = (
     (table_of, SOME, (3, 5)),
     (table_of, (), (3, 5)),
     (table_of, SOME, (GREAT, 5)),
+    (joined, SOME, (FAN,)),
+    (summed, SOME, (FAN,)),
+    (summed, (), SOME),
+    (repeated, SOME, 2),
+    (repeated, (), 3),
+    (repeated, SOME * 2, 2),
+    (mapped, SOME, ((1, 0, 2), (0, 1, 1))),
+    (mapped, SOME, ((1,), (0,))),
+    (left_out, SOME, 0),
+    (left_out, SOME, 1),
+    (loops_of, (3, -2, 0)),
+    (loops_of, (3, 2)),
+    (leasts_of, (3, -2, 0), 4),
+    (leasts_of, (3, -2, 0), 0),
+    (leasts_of, (3, 2), -1),
+    (cut_by_rest, SOME, (1, -1), 3, 1),
+    (cut_by_rest, SOME, (1, 0), 301, 0),
+    (cut_by_sum, SOME, (1, -1), 2),
+    (cut_by_sum, SOME, (1, -1), 40),
 )
 
 
