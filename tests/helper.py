@@ -136,6 +136,14 @@ def leasts_gone_through(values, total):
     return least_of(rows_to(values, total, steepest, further))
 
 
+def is_led_over(one, other):
+    """Whether the one fan is led over into the other, by all sums gone through."""
+    return (
+        one[0] in sums_up_to(other[1], one[0], other[0])
+        and all(step in sums_up_to(other[1], step) for step in one[1])
+    )
+
+
 def some_tally(chance, long, top):
     return tuple(chance.randint(0, top) for _ in range(long))
 
@@ -154,6 +162,18 @@ def some_sets(seed, count, most_fans=4, most_steps=4, top=3, longs=(1, 2, 3, 4))
         fans = [some_fan(chance, long, most_steps, top) for _ in range(chance.randint(0, most_fans))]
         made.append(tuple(fans))
     return made
+
+
+def some_grammar(chance, most_rules=8, signs="ABC", many=None):
+    """A grammar of up to so many rules with some of these signs."""
+    many = many or chance.randint(1, 4)
+    rules = []
+    for _ in range(chance.randint(1, most_rules)):
+        places = [chance.choice(signs) for _ in range(chance.choice((0, 0, 1, 1, 2)))]
+        places += [chance.choice("abcd"[:many]) for _ in range(chance.randint(0, 4 - len(places)))]
+        chance.shuffle(places)
+        rules.append((chance.choice(signs), "".join(places)))
+    return (many, tuple(rules))
 
 
 def long_of(some, other=2):

@@ -7,7 +7,10 @@ from tallysets.balances import leasts_of, loops_of
 from tallysets.cuts import cut_by_rest, cut_by_sum
 from tallysets.errors import TallyError
 from tallysets.fans import fan_of, is_set
+from tallysets.fews import few, missing
+from tallysets.grammars import read_grammar, show_grammar, tally_of
 from tallysets.images import left_out, mapped
+from tallysets.leads import led, led_fan
 from tallysets.marks import is_small, marks_of
 from tallysets.settexts import read_set, show_set
 from tallysets.sums import joined, repeated, summed
@@ -16,6 +19,7 @@ from tallysets.withins import counts_of, table_of, within
 
 STEPS = [(1, 1), (0, 0), (0, 3), (1, 1)]
 FAN = ((2, 0), ((0, 3), (1, 1)))
+GRAMMAR = (2, (("A", "aAb"), ("A", ""), ("A", "BB"), ("B", "ba")))
 SOME = (FAN, ((0, 4), ()), ((0, 1), ((1, 0),)))
 
 CALLS = (
@@ -82,6 +86,23 @@ CALLS = (
     (cut_by_rest, SOME, (1, 0), 301, 0),
     (cut_by_sum, SOME, (1, -1), 2),
     (cut_by_sum, SOME, (1, -1), 40),
+    (led_fan, ((3, 4), ((0, 6),)), FAN),
+    (led_fan, FAN, ((3, 4), ((0, 6),))),
+    (led_fan, ((GREAT, 4), ()), FAN),
+    (led, (FAN, ((0, 4), ())), SOME),
+    (led, SOME, (FAN,)),
+    (led, (((GREAT, 4), ()),), SOME),
+    (few, SOME + ((((3, 4), ((0, 6),))),) + SOME),
+    (few, ()),
+    (few, SOME + (((GREAT, 4), ()),)),
+    (missing, SOME, (FAN,), (5, 5)),
+    (missing, (FAN,), SOME, (5, 5)),
+    (missing, (FAN,), SOME, (GREAT, 5)),
+    (show_grammar, GRAMMAR),
+    (read_grammar, "2;A=aAb;A=;A=BB;B=ba"),
+    (read_grammar, "2;A=aAc"),
+    (tally_of, 3, "abcab"),
+    (tally_of, 1, ""),
 )
 
 
