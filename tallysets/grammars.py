@@ -3,15 +3,20 @@
 from tallysets.errors import NoText
 
 LETTERS = "abcd"
-SIGNS = "ABC"
+SIGNS = ("A", "B", "C")
 MANIES = ("1", "2", "3", "4")
 MOST_RULES = 8
 MOST_PLACES = 4
 MOST_SIGNS = 2
 
 
+def is_sign(mark):
+    # Not just the three that a text may have: rooms may be somewhat more, and have signs as well.
+    return mark.isupper()
+
+
 def signs_in(right):
-    return [mark for mark in right if mark in SIGNS]
+    return [mark for mark in right if is_sign(mark)]
 
 
 def tally_of(many, word):

@@ -176,6 +176,54 @@ def some_grammar(chance, most_rules=8, signs="ABC", many=None):
     return (many, tuple(rules))
 
 
+def tallies_of_grammar(grammar, most):
+    """The tallies up to most of the words of each sign, as a dict of Python sets."""
+    many, rules = grammar
+    known = {sign: set() for sign in "ABC"}
+    size = -1
+    while size != sum(map(len, known.values())):
+        size = sum(map(len, known.values()))
+        for sign, right in rules:
+            reached = {tuple(right.count(letter) for letter in "abcd"[:many])}
+            for branch in (mark for mark in right if mark.isupper()):
+                reached = {plus(one, part) for one in reached for part in known[branch]}
+                reached = {one for one in reached if fits(one, most)}
+            known[sign] |= {one for one in reached if fits(one, most)}
+    return known
+
+
+def words_of_grammar(grammar, longest):
+    """The words of each sign of at most so many letters, as a dict of Python sets."""
+    known = {sign: set() for sign in "ABC"}
+    size = -1
+    while size != sum(map(len, known.values())):
+        size = sum(map(len, known.values()))
+        for sign, right in grammar[1]:
+            reached = {""}
+            for mark in right:
+                parts = known[mark] if mark.isupper() else {mark}
+                reached = {word + part for word in reached for part in parts if len(word + part) <= longest}
+            known[sign] |= reached
+    return known
+
+
+def word_told(grammar, tree):
+    """The word of a good tree, as point 24 tells."""
+    branches = iter(tree[1])
+    right = grammar[1][tree[0]][1]
+    return "".join(word_told(grammar, next(branches)) if mark.isupper() else mark for mark in right)
+
+
+def is_tree_of(grammar, tree, sign):
+    """Whether it is a tree of that sign, as point 24 tells."""
+    if type(tree) is not tuple or len(tree) != 2 or type(tree[0]) is not int or type(tree[1]) is not tuple:
+        return False
+    if not 0 <= tree[0] < len(grammar[1]) or grammar[1][tree[0]][0] != sign:
+        return False
+    signs = [mark for mark in grammar[1][tree[0]][1] if mark.isupper()]
+    return len(signs) == len(tree[1]) and all(map(is_tree_of, [grammar] * len(signs), tree[1], signs))
+
+
 def long_of(some, other=2):
     """How many numbers the set's tallies have; for the set of no fans, which tells none, other."""
     return len(some[0][0]) if some else other

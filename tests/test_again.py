@@ -10,16 +10,20 @@ from tallysets.fans import fan_of, is_set
 from tallysets.fews import few, missing
 from tallysets.grammars import read_grammar, show_grammar, tally_of
 from tallysets.images import left_out, mapped
+from tallysets.languages import set_of, tree_for
 from tallysets.leads import led, led_fan
 from tallysets.marks import is_small, marks_of
+from tallysets.rooms import grammar_of, walk_for
 from tallysets.settexts import read_set, show_set
 from tallysets.sums import joined, repeated, summed
 from tallysets.tallies import added, at_most, is_tally, less, times, weight
+from tallysets.trees import sign_of, word_of
 from tallysets.withins import counts_of, table_of, within
 
 STEPS = [(1, 1), (0, 0), (0, 3), (1, 1)]
 FAN = ((2, 0), ((0, 3), (1, 1)))
 GRAMMAR = (2, (("A", "aAb"), ("A", ""), ("A", "BB"), ("B", "ba")))
+ROOMS = (2, ((0, "a", 1), (1, "b", 0), (0, "b", 0)), (0,))
 SOME = (FAN, ((0, 4), ()), ((0, 1), ((1, 0),)))
 
 CALLS = (
@@ -103,6 +107,19 @@ CALLS = (
     (read_grammar, "2;A=aAc"),
     (tally_of, 3, "abcab"),
     (tally_of, 1, ""),
+    (sign_of, GRAMMAR, (2, ((3, ()), (3, ())))),
+    (sign_of, GRAMMAR, (2, ((3, ()), (1, ())))),
+    (word_of, GRAMMAR, (2, ((3, ()), (3, ())))),
+    (word_of, GRAMMAR, (2, ((3, ()), (1, ())))),
+    (set_of, GRAMMAR),
+    (set_of, (1, (("B", "a"),))),
+    (tree_for, GRAMMAR, (2, 2)),
+    (tree_for, GRAMMAR, (2, 1)),
+    (tree_for, GRAMMAR, (7, 6)),
+    (grammar_of, ROOMS),
+    (walk_for, ROOMS, (2, 3)),
+    (walk_for, ROOMS, (1, 0)),
+    (walk_for, ROOMS, (7, 6)),
 )
 
 
