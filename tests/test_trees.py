@@ -216,6 +216,12 @@ class Trees(unittest.TestCase):
         for tree in ((0, ()), (0, ((0, ()),)), (0, ((1, ()),)), (0, ((2, ()),))):
             self.check_no_tree(signless, tree)
 
+    def test_somewhat_more_signs_in_a_right_text(self):
+        grammar = (2, (("A", "BaCbA"), ("A", ""), ("B", "bb"), ("C", "aa")))
+        check_same(self, word_of(grammar, (0, ((2, ()), (3, ()), (1, ())))), "bbaaab")
+        self.check_no_tree(grammar, (0, ((2, ()), (1, ()), (3, ()))))
+        self.check_no_tree(grammar, (0, ((2, ()), (3, ()))))
+
     def test_arguments(self):
         check_arguments(self, sign_of, "grammar", "tree")
         check_arguments(self, word_of, "grammar", "tree")
